@@ -1,0 +1,215 @@
+"""The package keeps to the small part of Python in which it is written (as far as these checks can see)."""
+
+import ast
+import builtins
+import pathlib
+import re
+import unittest
+
+PACKAGE = pathlib.Path(__file__).resolve().parent.parent / "surelyseen"
+LIBRARY = {
+    "heapq": {"heappush", "heappop", "heapify", "heapreplace", "heappushpop"},
+    "math": {"gcd", "lcm", "isqrt", "comb", "perm", "factorial"},
+    "collections": {"defaultdict", "deque"},
+}
+BUILTINS = set(
+    "len range enumerate zip min max sum abs sorted reversed int str bool list tuple dict set isinstance ord repr any all "
+    "divmod pow map iter next Exception ValueError TypeError KeyError IndexError LookupError ZeroDivisionError "
+    "NotImplemented StopIteration".split()
+)
+METHODS = set(
+    "append clear copy count endswith extend find get index insert isalnum isalpha isdigit islower isspace isupper items "
+    "join keys ljust lower lstrip partition pop remove replace reverse rfind rjust rpartition rsplit rstrip setdefault "
+    "split splitlines startswith strip update upper values zfill bit_length add discard".split()
+)
+DOUBLE = set(
+    "__init__ __eq__ __repr__ __str__ __len__ __enter__ __exit__ __call__ __iter__ __and__ __contains__".split()
+)
+BARRED = set(
+    "mro elements open input law version_info with_traceback add_note register attrgetter breakpoint compile delattr dir "
+    "eval exec exit gc getattr globals hasattr help importlib locals methodcaller os setattr super type vars sys".split()
+)
+BARRED_ATTRIBUTES = set(
+    "items keys values pop update append clear extend insert remove reverse setdefault sort args encode decode hex fromhex "
+    "format format_map mro".split()
+)
+NODES = (
+    ast.GeneratorExp, ast.AsyncFunctionDef, ast.Await, ast.Global, ast.Yield, ast.YieldFrom, ast.Set, ast.With, ast.Try,
+    ast.Match, ast.Div, ast.AnnAssign,
+)
+
+
+def all_files():
+    return sorted(PACKAGE.rglob("*"))
+
+
+def sources():
+    return [(path, ast.parse(path.read_text())) for path in all_files() if path.suffix == ".py"]
+
+
+def own_names(tree, kinds):
+    return {node.name for node in ast.walk(tree) if isinstance(node, kinds)}
+
+
+def bound_names(function):
+    """The parameters and local variables of a function."""
+    found = {arg.arg for node in ast.walk(function) if isinstance(node, ast.arguments)
+             for arg in node.posonlyargs + node.args + node.kwonlyargs}
+    return found | {node.id for node in ast.walk(function) if isinstance(node, ast.Name) and not isinstance(node.ctx, ast.Load)}
+
+
+class LanguageTest(unittest.TestCase):
+    def test_files(self):
+        for path in all_files():
+            if "__pycache__" not in path.parts:
+                self.assertRegex(path.name, r"\A(__init__|__main__|[a-z][a-z0-9_]*)\.py\Z")
+        self.assertLessEqual(len(sources()), 100)
+
+    def test_characters_and_sizes(self):
+        for path, tree in sources():
+            text = path.read_text()
+            lines = text.split("\n")
+            self.assertTrue(all(" " <= sign <= "~" or sign == "\n" for sign in text), path)
+            self.assertLessEqual(max(len(line) for line in lines), 120, path)
+            self.assertLessEqual(len(lines), 399, path)
+            for node in ast.walk(tree):
+                if isinstance(node, ast.FunctionDef):
+                    self.assertLessEqual(node.end_lineno - node.lineno + 1, 40, (path, node.name))
+
+    def test_module_level(self):
+        for path, tree in sources():
+            names = []
+            for place, node in enumerate(tree.body):
+                docstring = place == 0 and isinstance(node, ast.Expr) and isinstance(node.value, ast.Constant)
+                self.assertTrue(
+                    docstring or isinstance(node, (ast.ImportFrom, ast.FunctionDef, ast.ClassDef, ast.Assign)), (path, node.lineno)
+                )
+                if isinstance(node, ast.ImportFrom):
+                    names += [alias.name for alias in node.names]
+                elif isinstance(node, ast.Assign):
+                    self.assertEqual(len(node.targets), 1)
+                    names.append(node.targets[0].id)
+                elif not docstring:
+                    names.append(node.name)
+            self.assertEqual(len(set(names)), len(names), path)
+            self.assertFalse(set(names) & set(dir(builtins)), path)
+
+    def test_imports(self):
+        defined = {path.stem: {node.name for node in tree.body if isinstance(node, (ast.FunctionDef, ast.ClassDef))} |
+                   {node.targets[0].id for node in tree.body if isinstance(node, ast.Assign)} for path, tree in sources()}
+        below = {}
+        for path, tree in sources():
+            below[path.stem] = set()
+            for node in ast.walk(tree):
+                self.assertNotIsInstance(node, ast.Import, path)
+                if isinstance(node, ast.ImportFrom):
+                    self.assertIn(node, tree.body)
+                    self.assertEqual(node.level, 0)
+                    self.assertTrue(all(alias.asname is None for alias in node.names))
+                    allowed = LIBRARY.get(node.module)
+                    if allowed is None:
+                        package, name = node.module.split(".")
+                        self.assertEqual(package, "surelyseen")
+                        allowed = defined[name]
+                        below[path.stem].add(name)
+                    self.assertLessEqual({alias.name for alias in node.names}, allowed, path)
+        while below:
+            free = [name for name, needed in below.items() if not needed & set(below)]
+            self.assertTrue(free, f"files that import from each other: {sorted(below)}")
+            for name in free:
+                del below[name]
+
+    def test_statements_and_expressions(self):
+        for path, tree in sources():
+            for node in ast.walk(tree):
+                where = (path.name, getattr(node, "lineno", 0))
+                self.assertNotIsInstance(node, NODES, where)
+                if isinstance(node, (ast.FunctionDef, ast.ClassDef)):
+                    self.assertEqual(node.decorator_list, [], where)
+                if isinstance(node, ast.FunctionDef):
+                    self.assertTrue(node.returns is None and node.args.vararg is None and node.args.kwarg is None, where)
+                    if node.name.startswith("__"):
+                        self.assertIn(node.name, DOUBLE, where)
+                if isinstance(node, ast.Constant):
+                    self.assertNotIsInstance(node.value, (float, complex, bytes), where)
+                    if isinstance(node.value, str):
+                        self.assertNotIn("%", node.value, where)
+                        self.assertNotRegex(node.value, r"\A__.*__\Z", where)
+                if isinstance(node, ast.Pow):
+                    self.fail(where)
+                if isinstance(node, ast.Compare) and any(isinstance(op, (ast.Is, ast.IsNot)) for op in node.ops):
+                    self.assertTrue(all(isinstance(one, ast.Constant) for one in node.comparators), where)
+                if isinstance(node, ast.Raise) and node.exc is not None:
+                    self.assertIsInstance(node.exc, ast.Call, where)
+
+    def test_names(self):
+        for path, tree in sources():
+            fixed = own_names(tree, ast.ClassDef)
+            fixed |= {alias.name for node in tree.body if isinstance(node, ast.ImportFrom) for alias in node.names}
+            functions = own_names(tree, ast.FunctionDef)
+            for node in ast.walk(tree):
+                if isinstance(node, (ast.FunctionDef, ast.Lambda)):
+                    names = bound_names(node)
+                    self.assertFalse(names & (fixed | set(dir(builtins)) | BARRED), (path.name, node.lineno))
+                    for name in names - {"_"}:
+                        self.assertRegex(name, r"\A_?[A-Za-z][A-Za-z0-9_]*\Z")
+                if isinstance(node, ast.Name) and isinstance(node.ctx, ast.Load):
+                    self.assertNotEqual(node.id, "_", (path.name, node.lineno))
+                    if node.id in dir(builtins):
+                        self.assertIn(node.id, BUILTINS, (path.name, node.lineno))
+            self.assertFalse(functions & (BARRED | set(dir(builtins))), path)
+
+    def test_methods_and_attributes(self):
+        methods, assigned = set(), set()
+        for _, tree in sources():
+            for node in ast.walk(tree):
+                if isinstance(node, ast.ClassDef):
+                    methods |= {part.name for part in node.body if isinstance(part, ast.FunctionDef)}
+                if isinstance(node, ast.Attribute) and isinstance(node.ctx, ast.Store):
+                    assigned.add(node.attr)
+        self.assertFalse(methods & assigned)
+        self.assertFalse(assigned & BARRED_ATTRIBUTES)
+        for path, tree in sources():
+            called = {node.func for node in ast.walk(tree) if isinstance(node, ast.Call)}
+            for node in ast.walk(tree):
+                if isinstance(node, ast.Attribute) and isinstance(node.ctx, ast.Load):
+                    known = METHODS | methods if node in called else assigned
+                    self.assertIn(node.attr, known, (path.name, node.lineno))
+
+    def test_sets_and_views_are_used_on_the_spot(self):
+        for path, tree in sources():
+            parents = {child: node for node in ast.walk(tree) for child in ast.iter_child_nodes(node)}
+            for node in ast.walk(tree):
+                where = (path.name, getattr(node, "lineno", 0))
+                name = node.func.id if isinstance(node, ast.Call) and isinstance(node.func, ast.Name) else None
+                if name == "set" or isinstance(node, ast.SetComp):
+                    parent = parents[node]
+                    self.assertTrue(
+                        (isinstance(parent, ast.Call) and parent.func.id in ("len", "sorted")) or
+                        (isinstance(parent, ast.Compare)), where
+                    )
+                if name in ("zip", "enumerate", "reversed", "range", "map"):
+                    self.assertIsInstance(parents[node], (ast.For, ast.comprehension, ast.Call), where)
+                if isinstance(node, ast.For):
+                    self.assertNotIsInstance(node.iter, ast.IfExp, where)
+
+    def test_words(self):
+        for path, _ in sources():
+            text = path.read_text()
+            for word in ("_wall", "dataclass", "overload", "contextmanager", "typing", "Protocol", "__slots__"):
+                self.assertIsNone(re.search(word, text), (path.name, word))
+
+    def test_the_interface_stands_where_the_document_lists_it(self):
+        listed = {
+            "names": "is_name", "world": "World sums check_sum cells_of sum_range sum_value is_run",
+            "written": "written_sum read_sum", "nets": "Net balanced moved", "rings": "ring_or_cut is_ring is_cut",
+            "worldnet": "net_of",
+        }
+        trees = {path.stem: tree for path, tree in sources()}
+        for name, words in listed.items():
+            here = {node.name for node in trees[name].body if isinstance(node, (ast.FunctionDef, ast.ClassDef))}
+            self.assertLessEqual(set(words.split()), here)
+
+
+if __name__ == "__main__":
+    unittest.main()
