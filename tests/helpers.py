@@ -3,6 +3,7 @@
 import itertools
 import random
 
+from surelyseen.boxes import Box
 from surelyseen.world import World
 
 DOC_STREAMS = [("ok", 0, 9), ("err", 0, 3), ("slow", 0, 3)]
@@ -69,14 +70,77 @@ def own_values(world, table):
     return [own_value(world, table, asked) for asked in own_sums(world)]
 
 
+def own_weights(world, balance):
+    found = [[0] * world.ticks for _ in world.streams]
+    for asked, coefficient in balance:
+        for k, tick in own_cells(world, asked):
+            found[k][tick] += coefficient
+    return found
+
+
+def own_bound(box, balance, side):
+    """The floor (side 0) or the ceiling (side 1) of a balance."""
+    intervals = {asked: (low, high) for asked, low, high in box}
+    return sum(
+        coefficient * intervals[asked][side if coefficient > 0 else 1 - side] for asked, coefficient in balance
+    )
+
+
 def all_runs(world):
     cells = [range(low, high + 1) for _, low, high in world.streams for _ in range(world.ticks)]
     for counts in itertools.product(*cells):
         yield [list(counts[k:k + world.ticks]) for k in range(0, len(counts), world.ticks)]
 
 
+def own_fits(box, table):
+    return all(low <= own_value(box.world, table, asked) <= high for asked, low, high in box)
+
+
+class Listing:
+    """A small world with all its runs and the values of their sums, to list which of them fit a box."""
+
+    def __init__(self, world):
+        self.world = world
+        self.sums = own_sums(world)
+        self.runs = [(run, own_values(world, run)) for run in all_runs(world)]
+
+    def fitting(self, box):
+        """The runs that fit, each with the values of its sums by sum."""
+        rows = list(box)
+        return [
+            (run, dict(zip(self.sums, values))) for run, values in self.runs
+            if all(low <= value <= high for (_, low, high), value in zip(rows, values))
+        ]
+
+
 def drawn_run(draw, world):
     return [[draw.randint(low, high) for _ in range(world.ticks)] for _, low, high in world.streams]
+
+
+def drawn_box(draw, world, many, slack):
+    """A box that is narrowed at some sums to within the slack of a drawn run each; it may fit no run."""
+    box = Box(world)
+    hidden = drawn_run(draw, world)
+    for asked in draw.choices(own_sums(world), k=many):
+        if draw.random() < 0.2:
+            hidden = drawn_run(draw, world)
+        value = own_value(world, hidden, asked)
+        side = draw.randint(0, 2)
+        if side != 0:
+            box = box.narrowed(asked, least=value - draw.randint(0, slack))
+        if side != 1:
+            box = box.narrowed(asked, greatest=value + draw.randint(0, slack))
+    return box
+
+
+def fitting_box(draw, world, share, slack):
+    """A box that is narrowed around one run, and this run."""
+    box = Box(world)
+    hidden = drawn_run(draw, world)
+    for asked, value in zip(own_sums(world), own_values(world, hidden)):
+        if draw.random() < share:
+            box = box.narrowed(asked, least=value - draw.randint(0, slack), greatest=value + draw.randint(0, slack))
+    return box, hidden
 
 
 def drawn_net(draw, most_nodes=6, most_arcs=9):
@@ -88,3 +152,17 @@ def drawn_net(draw, most_nodes=6, most_arcs=9):
 
 def draws(seed):
     return random.Random(seed)
+
+
+def check_unit(case, balance):
+    """Every coefficient is 1 or -1, and no pair occurs twice."""
+    case.assertIsInstance(balance, list)
+    case.assertTrue(all(coefficient in (1, -1) for _, coefficient in balance))
+    case.assertEqual(len(set(balance)), len(balance))
+
+
+def check_clash(case, box, balance):
+    """The balance shows a clash of the box, in the form that `fit` promises."""
+    check_unit(case, balance)
+    case.assertFalse(any(any(row) for row in own_weights(box.world, balance)))
+    case.assertGreater(own_bound(box, balance, 0), 0)

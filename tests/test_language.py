@@ -203,12 +203,20 @@ class LanguageTest(unittest.TestCase):
         listed = {
             "names": "is_name", "world": "World sums check_sum cells_of sum_range sum_value is_run",
             "written": "written_sum read_sum", "nets": "Net balanced moved", "rings": "ring_or_cut is_ring is_cut",
-            "worldnet": "net_of",
+            "worldnet": "net_of", "steps": "way_cost is_way is_low_ring fits_facts",
+            "heights": "heights_or_ring difference cheapest_way", "boxes": "Box fits_box",
+            "balances": "cell_weights floor_of ceiling_of is_clash", "flows": "fit least greatest run_with",
+            "peaks": "peak trough run_with_peak run_with_trough", "walks": "walk",
         }
         trees = {path.stem: tree for path, tree in sources()}
         for name, words in listed.items():
             here = {node.name for node in trees[name].body if isinstance(node, (ast.FunctionDef, ast.ClassDef))}
             self.assertLessEqual(set(words.split()), here)
+        box = [node for node in trees["boxes"].body if isinstance(node, ast.ClassDef)][0]
+        self.assertLessEqual(
+            {"low_of", "high_of", "narrowed", "__and__", "__eq__", "__iter__"},
+            {node.name for node in box.body if isinstance(node, ast.FunctionDef)},
+        )
 
 
 if __name__ == "__main__":
