@@ -40,17 +40,17 @@ class Pushing:
     def _depths(self):
         """For each node the number of steps from the nearest node with too much, or -1."""
         depths = [-1] * self.net.nodes
-        front = [node for node, extra in enumerate(self.extra) if extra > 0]
-        for node in front:
+        queue = [node for node, extra in enumerate(self.extra) if extra > 0]
+        for node in queue:
             depths[node] = 0
-        while front:
-            further = []
-            for node in front:
-                for arc, direction, end in self.links[node]:
-                    if depths[end] < 0 and self._room(arc, direction) > 0:
-                        depths[end] = depths[node] + 1
-                        further.append(end)
-            front = further
+        place = 0
+        while place < len(queue):
+            node = queue[place]
+            place += 1
+            for arc, direction, end in self.links[node]:
+                if depths[end] < 0 and self._room(arc, direction) > 0:
+                    depths[end] = depths[node] + 1
+                    queue.append(end)
         return depths
 
     def _push_layer(self, depths):

@@ -71,13 +71,13 @@ def _steps_from(net, rises, falls, asked):
     links = links_of(net)
     head = net.arcs[asked][1]
     came = {head: None}
-    front = [head]
-    while front:
-        further = []
-        for node in front:
-            for arc, direction, end in links[node]:
-                if arc != asked and end not in came and _may_go(net, rises, falls, arc, direction):
-                    came[end] = (arc, direction, node)
-                    further.append(end)
-        front = further
+    queue = [head]
+    place = 0
+    while place < len(queue):
+        node = queue[place]
+        place += 1
+        for arc, direction, end in links[node]:
+            if arc != asked and end not in came and _may_go(net, rises, falls, arc, direction):
+                came[end] = (arc, direction, node)
+                queue.append(end)
     return came

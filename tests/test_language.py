@@ -58,6 +58,89 @@ def bound_names(function):
     return found | {node.id for node in ast.walk(function) if isinstance(node, ast.Name) and not isinstance(node.ctx, ast.Load)}
 
 
+CHANGING = set("append clear extend insert pop remove reverse setdefault update add discard sort".split())
+LOOPS = (ast.For, ast.ListComp, ast.SetComp, ast.DictComp)
+
+
+def root_of(node):
+    """The name of a variable, or "." and the name of an attribute, through items and choices of it."""
+    while isinstance(node, (ast.Subscript, ast.Starred)):
+        node = node.value
+    if isinstance(node, ast.Attribute):
+        return "." + node.attr
+    return node.id if isinstance(node, ast.Name) else None
+
+
+def choices_of(node):
+    """The expressions, one of which an expression gives: itself, or those of a choice."""
+    if isinstance(node, ast.IfExp):
+        return choices_of(node.body) + choices_of(node.orelse)
+    if isinstance(node, ast.BoolOp):
+        return [choice for part in node.values for choice in choices_of(part)]
+    return [node]
+
+
+def walked_by(node):
+    """What an expression behind the `in` of a loop goes over, also through enumerate, zip, items and the like."""
+    found = []
+    for choice in choices_of(node):
+        if isinstance(choice, ast.Call):
+            if isinstance(choice.func, ast.Attribute) and choice.func.attr in ("items", "keys", "values"):
+                found += walked_by(choice.func.value)
+            elif isinstance(choice.func, ast.Name) and choice.func.id in ("enumerate", "zip", "reversed", "iter", "map"):
+                found += [root for arg in choice.args for root in walked_by(arg)]
+        elif root_of(choice) is not None:
+            found.append(root_of(choice))
+    return found
+
+
+def twins_of(function):
+    """For each name of a function the names that may stand for the same list, because one is given the other."""
+    pairs = []
+    for node in ast.walk(function):
+        if isinstance(node, ast.Assign):
+            for target in node.targets:
+                both = [(target, node.value)]
+                if isinstance(target, ast.Tuple) and isinstance(node.value, ast.Tuple):
+                    both = list(zip(target.elts, node.value.elts))
+                pairs += [(root_of(one), root_of(choice)) for one, other in both for choice in choices_of(other)]
+    twins = {}
+    for one, other in pairs:
+        if one is not None and other is not None:
+            both = twins.get(one, {one}) | twins.get(other, {other})
+            for name in both:
+                twins[name] = both
+    return twins
+
+
+def changed_in(nodes):
+    """The roots of what statements or expressions change, each with its line."""
+    found = []
+    for node in (part for one in nodes for part in ast.walk(one)):
+        if isinstance(node, ast.Call) and isinstance(node.func, ast.Attribute) and node.func.attr in CHANGING:
+            found.append((root_of(node.func.value), node.lineno))
+        if isinstance(node, ast.Call) and isinstance(node.func, ast.Name) and node.func.id.startswith("heap"):
+            found.append((root_of(node.args[0]), node.lineno))
+        if isinstance(node, ast.Subscript) and not isinstance(node.ctx, ast.Load):
+            found.append((root_of(node.value), node.lineno))
+        if isinstance(node, ast.AugAssign):
+            found.append((root_of(node.target), node.lineno))
+    return found
+
+
+def changes_of_what_is_walked(function):
+    """The lines in which a loop of a function changes what it goes over (L23), by any name for it."""
+    twins = twins_of(function)
+    found = []
+    for node in ast.walk(function):
+        if isinstance(node, LOOPS):
+            parts = [node] if isinstance(node, ast.For) else node.generators
+            walked = {name for part in parts for root in walked_by(part.iter) for name in twins.get(root, {root})}
+            body = node.body if isinstance(node, ast.For) else [node]
+            found += [line for root, line in changed_in(body) if root in walked]
+    return found
+
+
 class LanguageTest(unittest.TestCase):
     def test_files(self):
         for path in all_files():
@@ -192,6 +275,29 @@ class LanguageTest(unittest.TestCase):
                     self.assertIsInstance(parents[node], (ast.For, ast.comprehension, ast.Call), where)
                 if isinstance(node, ast.For):
                     self.assertNotIsInstance(node.iter, ast.IfExp, where)
+
+    def test_what_a_loop_walks_is_not_changed_in_it(self):
+        for path, tree in sources():
+            for node in ast.walk(tree):
+                if isinstance(node, ast.FunctionDef):
+                    self.assertEqual(changes_of_what_is_walked(node), [], (path.name, node.name))
+
+    def test_the_check_of_loops_sees_every_name_for_a_list(self):
+        layers = "def f(front):\n while front:\n  further = []\n  for k in front:\n   further.append(k)\n  front = further\n"
+        wrong = [
+            layers, "def f(a):\n for k in a:\n  a.append(k)\n", "def f(a):\n b = a\n for k in enumerate(b):\n  a[0] = k\n",
+            "def f(s):\n for k in s.rows:\n  s.rows.pop()\n", "def f(a, b):\n for k in a or b:\n  del b[0]\n",
+            "def f(a, b):\n c, d = a, b\n for k in zip(d, c):\n  b += [k]\n", "def f(d):\n for k, v in d.items():\n  d[k] = 0\n",
+            "def f(a, b, c):\n d = a if c else b\n for k in b:\n  d.append(k)\n", "def f(a):\n return [a.pop() for k in a]\n",
+        ]
+        right = [
+            "def f(a):\n for k in list(a):\n  a.append(k)\n", "def f(a):\n b = []\n for k in a:\n  b.append(k)\n return b\n",
+            "def f(a):\n b = list(a)\n for k in b:\n  a.append(k)\n", "def f(a):\n k = 0\n while k < len(a):\n  a.append(k)\n  k += 1\n",
+        ]
+        for text in wrong:
+            self.assertNotEqual(changes_of_what_is_walked(ast.parse(text).body[0]), [], text)
+        for text in right:
+            self.assertEqual(changes_of_what_is_walked(ast.parse(text).body[0]), [], text)
 
     def test_words(self):
         for path, _ in sources():
