@@ -1,12 +1,22 @@
 """Balances: sums with coefficients, their cell weights, floors and ceilings."""
 
-from surelyseen.world import check_sum, ticks_of
+from surelyseen.world import check_sum, sum_value, ticks_of
 
 
 def check_balance(world, balance):
     """Raise NoSuchSum for the first sum of a balance that does not exist."""
     for asked, _ in balance:
         check_sum(world, asked)
+
+
+def negative(balance):
+    """The balance with every coefficient turned into its negative."""
+    return [(asked, -coefficient) for asked, coefficient in balance]
+
+
+def balance_value(world, table, balance):
+    """The value of a balance in a table."""
+    return sum([coefficient * sum_value(world, table, asked) for asked, coefficient in balance])
 
 
 def cell_weights(world, balance):
@@ -31,7 +41,7 @@ def floor_of(box, balance):
 
 def ceiling_of(box, balance):
     """The total that the intervals let the balance have at most."""
-    return -floor_of(box, [(asked, -coefficient) for asked, coefficient in balance])
+    return -floor_of(box, negative(balance))
 
 
 def is_clash(box, balance):

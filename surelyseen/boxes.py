@@ -58,6 +58,13 @@ def fits_box(box, table):
     return values_fit(box, sum_values(box.world, table))
 
 
+def narrowed_by(box, demands):
+    """The box narrowed by triples (sum, least, greatest), where None leaves a side as it is."""
+    for asked, least, greatest in demands:
+        box = box.narrowed(asked, least=least, greatest=greatest)
+    return box
+
+
 def values_fit(box, values):
     """Whether values, one for each sum in their order, lie in the intervals."""
     for (_, low, high), value in zip(box, values):

@@ -118,6 +118,24 @@ def cell_table(world, values):
     return [[values[world.places[(name, 0, tick)]] for tick in range(world.ticks)] for name, _, _ in world.streams]
 
 
+def is_stream(world, who):
+    """Whether there is a stream of this name."""
+    return who in [name for name, _, _ in world.streams]
+
+
+def streams_of(world, who):
+    """The names of the streams of a stream, a group or all, in the order of the world."""
+    return [world.streams[k][0] for k in world.members[who]]
+
+
+def group_with(world, streams):
+    """The group with exactly these different streams, in any order, or None."""
+    for group, members in world.groups:
+        if sorted(members) == sorted(streams):
+            return group
+    return None
+
+
 def levels_of(world, who):
     """The levels at which who, a stream, a group or all, has sums."""
     top = len(world.folds)

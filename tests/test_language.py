@@ -313,6 +313,9 @@ class LanguageTest(unittest.TestCase):
             "heights": "heights_or_ring difference cheapest_way", "boxes": "Box fits_box",
             "balances": "cell_weights floor_of ceiling_of is_clash", "flows": "fit least greatest run_with",
             "peaks": "peak trough run_with_peak run_with_trough", "walks": "walk",
+            "prices": "lightest heaviest shows_least shows_greatest stretch", "setups": "Setup check_item",
+            "items": "written_item read_item", "samples": "kept rows_between missing_rows sampled",
+            "gathering": "box_of reported", "clashes": "least_clash", "journals": "written_journal read_journal",
         }
         trees = {path.stem: tree for path, tree in sources()}
         for name, words in listed.items():
