@@ -316,6 +316,8 @@ class LanguageTest(unittest.TestCase):
             "prices": "lightest heaviest shows_least shows_greatest stretch", "setups": "Setup check_item",
             "items": "written_item read_item", "samples": "kept rows_between missing_rows sampled",
             "gathering": "box_of reported", "clashes": "least_clash", "journals": "written_journal read_journal",
+            "questions": "check_question holds", "cases": "cases case_count", "answers": "answer shows", "firsts": "firsts",
+            "reading": "read_question written_question", "reasons": "reasons", "machines": "Machine known sure",
         }
         trees = {path.stem: tree for path, tree in sources()}
         for name, words in listed.items():
