@@ -8,13 +8,18 @@ from surelyseen.questions import holds
 
 
 def answer(box, question):
-    """("clash", balance), ("yes", run, balances), ("no", run, balances) or ("open", run, other).
+    """("clash", balance), ("yes", run, balances), ("no", run, balances) or ("open", run, other)."""
+    check_cases(box.world, question)
+    return answer_with(box, fit(box), question)
+
+
+def answer_with(box, fitted, question):
+    """What `answer` returns, found from what `fit` returns for the box.
 
     A run that fits leaves two of the words open; the cases of the other side decide between them.
     """
     world = box.world
-    check_cases(world, question)
-    word, found = fit(box)
+    word, found = fitted
     if word == "clash":
         return ("clash", found)
     held = holds(world, found, question)

@@ -30,6 +30,12 @@ def cheapest_way(points, facts, a, b):
     return _way(points, facts, a, b)
 
 
+def cheapest_costs(points, facts, a):
+    """For each point the greatest height of it minus that of a, or None where there is no bound."""
+    _check_fitting(points, facts, [a])
+    return _cheapest(points, facts, [a])[0]
+
+
 def _way(points, facts, a, b):
     """A way from a to b with the least cost, or None, over facts that can be met."""
     costs, last = _cheapest(points, facts, [a])

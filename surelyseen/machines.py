@@ -4,9 +4,10 @@ from surelyseen.errors import BadMachine
 
 
 class Machine:
-    """A machine; beside what it was made from it holds where its moves lead.
+    """A machine; beside what it was made from it holds where its moves lead and what its states mean.
 
-    following: for each pair (state, letter) that has moves the list of their next states.
+    following: for each state a dict that gives the next states of its moves for each of their letters.
+    meaning: for each state whether the matter holds in it.
     """
 
     def __init__(self, states, letters, starts, moves, matter):
@@ -20,7 +21,8 @@ class Machine:
         _check_states(states, self.starts)
         _check_moves(states, letters, self.moves)
         _check_states(states, self.matter)
-        self.following = _following(self.moves)
+        self.following = _following(states, self.moves)
+        self.meaning = _meaning(states, self.matter)
 
 
 def known(machine, course):
@@ -36,22 +38,38 @@ def known(machine, course):
 
 def sure(machine, course):
     """Whether the matter holds after a course: "yes", "no", "open", or "clash" if no hidden run fits."""
-    found = known(machine, course)
-    if not found:
+    return verdict(machine, known(machine, course))
+
+
+def verdict(machine, states):
+    """What is sure if these are the states in which hidden runs that fit end."""
+    if not states:
         return "clash"
-    inside = [state for state in found if state in machine.matter]
-    if len(inside) == len(found):
+    marks = [machine.meaning[state] for state in states]
+    if all(marks):
         return "yes"
-    return "open" if inside else "no"
+    return "open" if any(marks) else "no"
 
 
 def states_after(machine, states, letter):
     """The states to which a move with the letter leads from one of the states, ascending."""
     reached = {}
     for state in states:
-        for end in machine.following.get((state, letter), []):
+        for end in machine.following[state].get(letter, []):
             reached[end] = True
     return sorted(reached)
+
+
+def all_after(machine, states):
+    """For each letter the tuple of the states to which a move with it leads from one of the states, ascending.
+
+    Only the moves that there are cost time, however many letters have none.
+    """
+    reached = {}
+    for state in states:
+        for letter, ends in machine.following[state].items():
+            reached.setdefault(letter, []).extend(ends)
+    return [tuple(sorted(set(reached.get(letter, [])))) for letter in range(machine.letters)]
 
 
 def _check_states(states, listed):
@@ -70,8 +88,15 @@ def _check_moves(states, letters, moves):
         raise BadMachine("the moves are different")
 
 
-def _following(moves):
-    found = {}
+def _following(states, moves):
+    found = [{} for _ in range(states)]
     for state, letter, end in moves:
-        found.setdefault((state, letter), []).append(end)
+        found[state].setdefault(letter, []).append(end)
+    return found
+
+
+def _meaning(states, matter):
+    found = [False] * states
+    for state in matter:
+        found[state] = True
     return found

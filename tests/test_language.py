@@ -23,7 +23,7 @@ METHODS = set(
     "split splitlines startswith strip update upper values zfill bit_length add discard".split()
 )
 DOUBLE = set(
-    "__init__ __eq__ __repr__ __str__ __len__ __enter__ __exit__ __call__ __iter__ __and__ __contains__".split()
+    "__init__ __eq__ __len__ __iter__ __and__ __contains__".split()
 )
 BARRED = set(
     "mro elements open input law version_info with_traceback add_note register attrgetter breakpoint compile delattr dir "
@@ -34,7 +34,7 @@ BARRED_ATTRIBUTES = set(
     "format format_map mro".split()
 )
 NODES = (
-    ast.GeneratorExp, ast.AsyncFunctionDef, ast.Await, ast.Global, ast.Yield, ast.YieldFrom, ast.Set, ast.With, ast.Try,
+    ast.GeneratorExp, ast.AsyncFunctionDef, ast.Await, ast.Global, ast.Yield, ast.YieldFrom, ast.Set, ast.With,
     ast.Match, ast.Div, ast.AnnAssign,
 )
 
@@ -203,6 +203,7 @@ class LanguageTest(unittest.TestCase):
                 del below[name]
 
     def test_statements_and_expressions(self):
+        errors = own_names(ast.parse((PACKAGE / "errors.py").read_text()), ast.ClassDef)
         for path, tree in sources():
             for node in ast.walk(tree):
                 where = (path.name, getattr(node, "lineno", 0))
@@ -220,6 +221,10 @@ class LanguageTest(unittest.TestCase):
                         self.assertNotRegex(node.value, r"\A__.*__\Z", where)
                 if isinstance(node, ast.Pow):
                     self.fail(where)
+                if isinstance(node, ast.Try):
+                    self.assertEqual((node.finalbody, node.orelse), ([], []), where)
+                    for handler in node.handlers:
+                        self.assertIn(handler.type.id, errors, where)
                 if isinstance(node, ast.Compare) and any(isinstance(op, (ast.Is, ast.IsNot)) for op in node.ops):
                     self.assertTrue(all(isinstance(one, ast.Constant) for one in node.comparators), where)
                 if isinstance(node, ast.Raise) and node.exc is not None:
@@ -318,6 +323,11 @@ class LanguageTest(unittest.TestCase):
             "gathering": "box_of reported", "clashes": "least_clash", "journals": "written_journal read_journal",
             "questions": "check_question holds", "cases": "cases case_count", "answers": "answer shows", "firsts": "firsts",
             "reading": "read_question written_question", "reasons": "reasons", "machines": "Machine known sure",
+            "rules": "Rule judge closes", "knowing": "knowledge parting least_rule state_courses",
+            "lines": "Line line_machine seen course_items",
+            "incidents": "incidents possible_incidents incident_range joined silenced",
+            "telling": "told_by shows_told shows_lost told_sums", "lots": "rank least_lots is_least_lot cheapest_lot",
+            "schedules": "kept_at first_lost",
         }
         trees = {path.stem: tree for path, tree in sources()}
         for name, words in listed.items():

@@ -4,6 +4,7 @@ import itertools
 import unittest
 
 from helpers import draws
+from machinery import drawn_machine
 from surelyseen.errors import BadMachine
 from surelyseen.machines import Machine, known, sure
 
@@ -15,14 +16,6 @@ def hidden_ends(machine, course):
         run[-1] for run in itertools.product(range(machine.states), repeat=len(course) + 1)
         if run[0] in machine.starts and all((run[k], letter, run[k + 1]) in moves for k, letter in enumerate(course))
     }
-
-
-def drawn_machine(draw, states, letters, many):
-    moves = list(itertools.product(range(states), range(letters), range(states)))
-    return Machine(
-        states, letters, draw.sample(range(states), draw.randint(0, states)), draw.sample(moves, min(many, len(moves))),
-        draw.sample(range(states), draw.randint(0, states)),
-    )
 
 
 class MachineTest(unittest.TestCase):
