@@ -47,19 +47,25 @@ def _forest(net, free):
     """For each node the pair (arc, node) through which free arcs first reached it, or None, and how deep it is."""
     links = links_of(net)
     came = [None] * net.nodes
-    depths = [-1] * net.nodes
+    depths = [None] * net.nodes
     for root in range(net.nodes):
-        queue = [root] if depths[root] < 0 else []
-        place = 0
-        while place < len(queue):
-            node = queue[place]
-            place += 1
-            depths[node] = 0 if came[node] is None else depths[came[node][1]] + 1
-            for arc, _, end in links[node]:
-                if free[arc] and depths[end] < 0 and came[end] is None:
-                    came[end] = (arc, node)
-                    queue.append(end)
+        if depths[root] is None:
+            depths[root] = 0
+            _grow_tree(links, free, root, came, depths)
     return came, depths
+
+
+def _grow_tree(links, free, root, came, depths):
+    queue = [root]
+    place = 0
+    while place < len(queue):
+        node = queue[place]
+        place += 1
+        for arc, _, end in links[node]:
+            if free[arc] and depths[end] is None:
+                came[end] = (arc, node)
+                depths[end] = depths[node] + 1
+                queue.append(end)
 
 
 def _ring_behind(came, depths, one, other):

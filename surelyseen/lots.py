@@ -90,10 +90,13 @@ def least_lots(world, promised):
 
 
 def is_least_lot(world, promised, lot):
-    """Whether a list of sums is a lot with the least number of sums that tells the promised ones."""
+    """Whether a list of sums is a lot with the least number of sums that tells the promised ones.
+
+    If it has this number of entries and tells them, it repeats none: fewer sums would not tell them.
+    """
     check_sums(world, promised)
     check_sums(world, lot)
-    if len(set(lot)) != len(lot) or len(lot) != rank(world, promised):
+    if len(lot) != rank(world, promised):
         return False
     told = told_places(world, lot)
     return all([told[world.places[asked]] for asked in promised])

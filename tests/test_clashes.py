@@ -5,6 +5,7 @@ import unittest
 
 from happenings import Happenings, drawn_items, small_setups
 from helpers import all_runs, doc_world, drawn_run, draws, large_world
+from sureness import own_least_clash
 from surelyseen.clashes import least_clash
 from surelyseen.errors import BadItem, NoSuchSum
 from surelyseen.flows import fit
@@ -13,21 +14,6 @@ from surelyseen.items import written_item
 from surelyseen.samples import sampled
 from surelyseen.setups import Setup
 from surelyseen.world import World
-
-
-def own_least_clash(items, fits):
-    """The list that point 44 finds, item by item, if `fits` tells whether some run fits a list."""
-    if fits(items):
-        return None
-    different = []
-    for item in sorted(items, key=written_item):
-        if item not in different:
-            different.append(item)
-    for item in list(different):
-        rest = [other for other in different if other != item]
-        if not fits(rest):
-            different = rest
-    return different
 
 
 class LeastClashTest(unittest.TestCase):

@@ -1,23 +1,13 @@
 """Written items (point 47) and journals (point 48)."""
 
-import re
 import unittest
 
 from helpers import doc_world, draws, large_world, own_sums
+from lines import changed, drawn_item, own_bad_line, own_reads
 from surelyseen.errors import BadLine, BadText
 from surelyseen.items import read_item, written_item
 from surelyseen.journals import read_journal, written_journal
 
-RESERVED = "all|and|or|not|some|every|row|first|from|to|at|in"
-NAME = rf"(?!(?:{RESERVED})(?![a-z0-9]))[a-z][a-z0-9]{{0,11}}"
-WHO = rf"(?:all(?![a-z0-9])|{NAME})"
-NUMBER = r"(?:0|[1-9][0-9]{0,8})"
-SHORT = r"(?:0|[1-9][0-9]{0,3})"
-SUM = rf"{WHO}\.{SHORT}\.{SHORT}"
-LINES = [
-    rf"count {NAME} {NUMBER} {NUMBER} {NUMBER}", rf"close {NAME} {NUMBER} {NUMBER}", rf"total {SUM} {NUMBER} {NUMBER}",
-    rf"row {WHO} {NUMBER} {NUMBER} {NAME}", rf"rows {WHO} {NUMBER}(?: {NUMBER})*",
-]
 PAIRS = [
     (("count", "web", 3, 0, 9), "count web 3 0 9"),
     (("count", "abcdefghijkl", 999999999, 999999999, 0), "count abcdefghijkl 999999999 999999999 0"),
@@ -31,40 +21,6 @@ PAIRS = [
     (("rows", "g", 1, (0, 3, 6, 123456789)), "rows g 1 0 3 6 123456789"),
     (("rows", "g", 1, (7, 7, 1)), "rows g 1 7 7 1"),
 ]
-
-
-def own_reads(line):
-    """Whether a line is the written form of an item, by patterns."""
-    return any(re.fullmatch(pattern, line) for pattern in LINES)
-
-
-def drawn_item(draw):
-    word = draw.choice(["count", "close", "total", "row", "rows"])
-    name = draw.choice(["a", "web", "x9", "rows", "count", "abcdefghijkl"])
-    who = draw.choice([name, "all"])
-    numbers = [draw.choice([0, 1, 9, 10, 99, 12345678, 123456789, 999999999]) for _ in range(3)]
-    if word == "count":
-        return (word, name, *numbers)
-    if word == "close":
-        return (word, name, *numbers[:2])
-    if word == "total":
-        return (word, (who, draw.choice([0, 1, 9999]), draw.choice([0, 15, 1000])), *numbers[:2])
-    if word == "row":
-        return (word, who, *numbers[:2], name)
-    return (word, who, numbers[0], tuple(draw.choices(numbers, k=draw.randint(0, 6))))
-
-
-def changed(draw, text, signs):
-    """The text with one sign left out, put in, changed, or two exchanged."""
-    place = draw.randrange(len(text) + 1)
-    way = draw.randint(0, 3)
-    if way == 0:
-        return text[:place] + text[place + 1:]
-    if way == 1:
-        return text[:place] + draw.choice(signs) + text[place:]
-    if way == 2:
-        return text[:place] + draw.choice(signs) + text[place + 1:]
-    return text[:place] + text[place:place + 2][::-1] + text[place + 2:]
 
 
 class ItemsTest(unittest.TestCase):
@@ -142,17 +98,6 @@ class ItemsTest(unittest.TestCase):
         self.assertGreater(verdicts.count(False), 1000)
 
 
-def own_bad_line(text):
-    """The number of the first line of a journal that is none, or None."""
-    if not text:
-        return None
-    lines = text.split("\n")
-    for number, line in enumerate(lines[:-1], start=1):
-        if line and line[0] != "#" and not own_reads(line):
-            return number
-    return len(lines) if lines[-1] else None
-
-
 class JournalsTest(unittest.TestCase):
     def check_bad(self, text, number):
         with self.assertRaises(BadLine) as caught:
@@ -197,7 +142,7 @@ class JournalsTest(unittest.TestCase):
             text = written_journal(items)
             self.assertEqual(read_journal(text), items)
             text = changed(draw, text, "\n\n# 01ax")
-            number = own_bad_line(text)
+            number = own_bad_line(text, own_reads)
             if number is None:
                 lines = [line for line in text.split("\n") if line and line[0] != "#"]
                 self.assertEqual(read_journal(text), [read_item(line) for line in lines])

@@ -327,7 +327,11 @@ class LanguageTest(unittest.TestCase):
             "lines": "Line line_machine seen course_items",
             "incidents": "incidents possible_incidents incident_range joined silenced",
             "telling": "told_by shows_told shows_lost told_sums", "lots": "rank least_lots is_least_lot cheapest_lot",
-            "schedules": "kept_at first_lost",
+            "schedules": "kept_at first_lost", "meters": "Meter readings_fit meter_facts growth stream_meter",
+            "budgets": "budget_states overspent settles least_reads", "spending": "budget_state",
+            "traces": "Trace trace_facts lead before sure_order offsets", "causes": "Causes reach limits fit_lot",
+            "blame": "least_faults conflicts blame", "desk": "Desk replay",
+            "books": "written_deed read_deed written_book read_book",
         }
         trees = {path.stem: tree for path, tree in sources()}
         for name, words in listed.items():

@@ -218,7 +218,7 @@ class CourseItemsTest(unittest.TestCase):
         early = late.triples.index((None, 1, None))
         total = fold.triples.index((None, None, 1))
         for line, course in (
-            (late, [early]), (late, [9]), (late, [-1]), (late, [0, early, 9]), (fold, [total]), (fold, [0, total, total]), (fold, [0, 99]), (Line(1), [3]),
+            (late, [early]), (late, [9]), (late, [-1]), (late, [0, early, 9]), (fold, [total]), (fold, [0, total, total]), (fold, [0, 99]), (Line(1), [3]), (Line(1), [-1]), (Line(1), [0, -3]),
             (late, [late.triples.index((1, 1, None))]),
         ):
             with self.assertRaises(BadMachine):

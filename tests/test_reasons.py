@@ -3,38 +3,18 @@
 import itertools
 import unittest
 
-from asking import drawn_question, own_holds
+from asking import drawn_question
 from happenings import Happenings, drawn_items, small_setups
 from helpers import all_runs, doc_world, draws, large_world
+from sureness import listed_word, own_reasons
 from surelyseen.answers import answer
 from surelyseen.cases import case_count
 from surelyseen.clashes import least_clash
 from surelyseen.errors import BadForm, BadItem, NoSuchSum, TooManyCases
 from surelyseen.gathering import box_of
-from surelyseen.items import written_item
 from surelyseen.reasons import reasons
 from surelyseen.setups import Setup
 from surelyseen.world import World
-
-
-def own_reasons(items, word_of):
-    """The list that point 98 finds, item by item, if `word_of` tells the word for a list; None for "open"."""
-    word = word_of(items)
-    if word == "open":
-        return None
-    left = sorted(set(items), key=written_item)
-    for item in list(left):
-        rest = [other for other in left if other != item]
-        if word_of(rest) == word:
-            left = rest
-    return left
-
-
-def listed_word(happenings, runs, items, question):
-    """The word of the answer, by listing all runs that fit the items."""
-    world = happenings.setup.world
-    verdicts = {own_holds(world, run, question) for run in runs if happenings.fits(items, run)}
-    return {(): "clash", (True,): "yes", (False,): "no", (False, True): "open"}[tuple(sorted(verdicts))]
 
 
 class ReasonsTest(unittest.TestCase):
