@@ -9,7 +9,7 @@ class Joins:
     def __init__(self, nodes):
         self._above = list(range(nodes))
 
-    def join(self, pair):
+    def unite(self, pair):
         """Join two nodes; whether they were apart before."""
         one = self._head(pair[0])
         other = self._head(pair[1])

@@ -61,9 +61,10 @@ def seen(line, counts, shown):
     if len(counts) != len(shown):
         raise BadMachine("there is one count and one triple for each tick")
     course = []
-    for tick, (count, (now, before, total)) in enumerate(zip(counts, shown)):
+    for tick, (count, coming) in enumerate(zip(counts, shown)):
         if not 0 <= count <= line.high:
             raise BadMachine("a count is from 0 to the line's high")
+        now, before, total = coming
         came = (
             count if now else None,
             counts[tick - 1] if before and line.late and tick > 0 else None,

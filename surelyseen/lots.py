@@ -19,8 +19,9 @@ class Choice:
 
     def __init__(self, world, promised):
         told = told_places(world, promised)
-        self._arcs = net_of(world).arcs
-        self._nodes = net_of(world).nodes
+        net = net_of(world)
+        self._nodes = net.nodes
+        self._arcs = net.arcs
         self._others = [place for place, mark in enumerate(told) if not mark]
         self.told = [place for place, asked in enumerate(world.order) if told[place] and not is_fixed(world, asked)]
 
@@ -41,7 +42,7 @@ class Choice:
         turn = None
         for turning, place in enumerate(self.told):
             if place not in lot:
-                joins.join(self._arcs[place])
+                joins.unite(self._arcs[place])
             elif joins.apart(self._arcs[place]):
                 turn = turning
         if turn is None:
@@ -50,21 +51,21 @@ class Choice:
         kept = [place for place in self.told[:turn] if place in lot]
         for place in self.told[:turn + 1]:
             if place not in kept:
-                joins.join(self._arcs[place])
+                joins.unite(self._arcs[place])
         return kept + self._filled(joins, self.told[turn + 1:])
 
     def _joins(self):
         """The parts in which the net falls."""
         joins = Joins(self._nodes)
         for place in self._others:
-            joins.join(self._arcs[place])
+            joins.unite(self._arcs[place])
         return joins
 
     def _filled(self, joins, order):
         """What is left of the sums in an order, ascending, when the last ones first have joined all that they can."""
         left = []
         for place in reversed(order):
-            if not joins.join(self._arcs[place]):
+            if not joins.unite(self._arcs[place]):
                 left.append(place)
         return sorted(left)
 

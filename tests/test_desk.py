@@ -92,9 +92,21 @@ class ListingTest(unittest.TestCase):
         shuffled = Desk(desk.setup)
         for item in draw.sample(own.held, len(own.held)):
             shuffled.take(item)
-        self.assertEqual(shuffled.box(), desk.box())
-        self.assertEqual(shuffled.clash(), desk.clash())
-        self.assertEqual(shuffled.only_run(), desk.only_run())
+        for name, question in own.alerts:
+            shuffled.watch(name, written_question(question))
+        for asked in own.promises:
+            shuffled.promise(asked)
+        self.assertTrue(shuffled == desk)
+        for call in (Desk.box, Desk.clash, Desk.only_run, lambda one: [told[:2] for told in one.alerts()]):
+            self.assertEqual(call(shuffled), call(desk))
+        for _, question in own.alerts:
+            text = written_question(question)
+            self.assertEqual(shuffled.ask(text), desk.ask(text))
+            if few_cases(own.world, question, 20):
+                self.assertEqual(shuffled.reasons(text), desk.reasons(text))
+        if own.fitting(own.held):
+            self.assertEqual(shuffled.report("all", 0), desk.report("all", 0))
+            self.assertEqual(shuffled.firing("all", 0, ">=", 2), desk.firing("all", 0, ">=", 2))
 
     def step(self, draw, desk, own, hidden):
         """One deed on both; its kind and what became of it."""
